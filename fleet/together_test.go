@@ -19,10 +19,13 @@ func stacks() string {
 	return string(b[:runtime.Stack(b, true)])
 }
 
-// settled waits until no more goroutines are there than were: one that is through with its work may take a moment to be gone.
-func settled(were int) bool {
+// atWork tells how many goroutines are there that fleet started. They are counted in their stacks, for which the world is stopped: runtime.NumGoroutine adds up what others change meanwhile, and sees some that were never there.
+func atWork() int { return strings.Count(stacks(), "\ncreated by portcullis/fleet.") }
+
+// settled waits until none of them is there: one that is through with its work may take a moment to be gone.
+func settled() bool {
 	for range 10000 {
-		if runtime.NumGoroutine() <= were {
+		if atWork() == 0 {
 			return true
 		}
 		time.Sleep(time.Millisecond)
@@ -30,9 +33,26 @@ func settled(were int) bool {
 	return false
 }
 
+// watched tells the most that were seen at work at one time while something was done.
+func watched(do func()) (most int) {
+	var over atomic.Bool
+	var watch sync.WaitGroup
+	watch.Add(1)
+	go func() {
+		defer watch.Done()
+		for !over.Load() {
+			most = max(most, atWork())
+			time.Sleep(100 * time.Microsecond)
+		}
+	}()
+	do()
+	over.Store(true)
+	watch.Wait()
+	return most
+}
+
 // When Run has answered, all that it started has ended: nobody plays any more, and nobody waits.
 func TestAllEnded(t *testing.T) {
-	were := runtime.NumGoroutine()
 	jobs := []fleet.Job{long(), {}, busy(), long(), goes(mostCuts), job(chapter()), long()}
 	for workers := 1; workers <= mostFleet; workers++ {
 		run(t, jobs, workers)
@@ -42,22 +62,21 @@ func TestAllEnded(t *testing.T) {
 				t.Fatalf("%d workers: one of them is still at play:\n%s", workers, l)
 			}
 		}
-		if !settled(were) {
-			t.Fatalf("%d workers: %d goroutines, %d of old", workers, runtime.NumGoroutine(), were)
+		if !settled() {
+			t.Fatalf("%d workers: they stay:\n%s", workers, stacks())
 		}
 	}
 }
 
 // With an error nothing is left behind either.
 func TestEndedWithError(t *testing.T) {
-	were := runtime.NumGoroutine()
 	for range 50 {
 		fleet.Run(make([]fleet.Job, 65), 64)
 		fleet.Run(make([]fleet.Job, 65), 65)
 		fleet.Run(nil, 64)
 	}
-	if !settled(were) {
-		t.Errorf("%d goroutines, %d of old", runtime.NumGoroutine(), were)
+	if !settled() {
+		t.Errorf("they stay:\n%s", stacks())
 	}
 }
 
@@ -68,25 +87,12 @@ func TestSoManyWorkers(t *testing.T) {
 		jobs[i] = long()
 	}
 	for _, workers := range []int{1, 2, 5} {
-		were := runtime.NumGoroutine()
-		var over atomic.Bool
-		var most int
-		var watch sync.WaitGroup
-		watch.Add(1)
-		go func() {
-			defer watch.Done()
-			for !over.Load() {
-				most = max(most, runtime.NumGoroutine()-were-1)
-				runtime.Gosched()
-			}
-		}()
-		run(t, jobs, workers)
-		over.Store(true)
-		watch.Wait()
-		if most > workers {
+		if !settled() {
+			t.Fatalf("some were there before:\n%s", stacks())
+		}
+		if most := watched(func() { run(t, jobs, workers) }); most > workers {
 			t.Errorf("%d at work, want %d at most", most, workers)
 		}
-		settled(were)
 	}
 }
 
